@@ -1,0 +1,95 @@
+"""Promise 4: the window's light lies between its panes', and is theirs if they are alike; it stays, however
+the window is turned, mirrored, magnified."""
+
+import random
+import unittest
+
+from tests import oracle
+from tests.cartoons import RUN_LINES, RUN_MARKS, RUN_POINTS, by_y, encode, light, random_drawing, row
+from windowlight import desk
+
+SEEDS = range(60)
+
+
+def cartoons():
+    """Drawings of all kinds that keep every rule."""
+    yield 30, 20, RUN_POINTS, RUN_LINES, RUN_MARKS
+    for seed in SEEDS:
+        drawing = random_drawing(seed)
+        if oracle.judge(encode(*drawing)) is None:
+            yield drawing
+
+
+def shop(seed):
+    source = random.Random(seed)
+    glasses = [source.randrange(65536) for k in range(96)]
+    paintings = [source.randrange(65536) for k in range(64)]
+    return glasses, paintings, [source.randrange(65536) for k in range(32)]
+
+
+def moved(drawing, way):
+    """The drawing's bytes with each point gone the way, a function of x, y, width, height."""
+    width, height, points, lines, marks = drawing
+    spots = [way(x, y, width, height) for x, y in points]
+    order = sorted(spots, key=by_y)
+    number = [order.index(spot) for spot in spots]
+    joined = sorted(tuple(sorted((number[a], number[b]))) for a, b in lines)
+    put = [way(x, y, width, height) + (glass, painting) for x, y, glass, painting in marks]
+    return encode(max(x for x, y in spots), max(y for x, y in spots), order, joined, sorted(put, key=by_y))
+
+
+WAYS = {
+    "as it is": lambda x, y, w, h: (x, y),
+    "turned a quarter": lambda x, y, w, h: (h - y, x),
+    "turned a half": lambda x, y, w, h: (w - x, h - y),
+    "turned three quarters": lambda x, y, w, h: (y, w - x),
+    "mirrored": lambda x, y, w, h: (w - x, y),
+    "mirrored upside down": lambda x, y, w, h: (x, h - y),
+    "mirrored aslant": lambda x, y, w, h: (y, x),
+    "magnified": lambda x, y, w, h: (3 * x, 3 * y),
+    "magnified much": lambda x, y, w, h: (26000 * x, 26000 * y),
+    "widened": lambda x, y, w, h: (700 * x, y),
+}
+
+
+class TestPromise4(unittest.TestCase):
+    @classmethod
+    def setUpClass(cls):
+        cls.cartoons = list(cartoons())
+
+    def test_there_are_many(self):
+        self.assertGreater(len(self.cartoons), 30)
+        self.assertGreater(max(len(drawing[4]) for drawing in self.cartoons), 10)
+
+    def test_between_the_least_and_the_greatest(self):
+        for k, drawing in enumerate(self.cartoons):
+            told = (encode(*drawing), *shop(k))
+            panes = [desk.pane(i, *told)[2:] for i in range(len(drawing[4]))]
+            window = desk.all_of(*told)[2:]
+            self.assertEqual(len(window), 32)
+            for band, number in enumerate(window):
+                seen = [pane[band] for pane in panes]
+                self.assertTrue(min(seen) <= number <= max(seen))
+
+    def test_panes_all_alike(self):
+        for k, drawing in enumerate(self.cartoons):
+            width, height, points, lines, marks = drawing
+            glasses, paintings, daylight = shop(k)
+            for number, painting in ((0, 0), (2, 0), (1, 2)):
+                cartoon = encode(width, height, points, lines, [mark[:2] + (number, painting) for mark in marks])
+                window = desk.all_of(cartoon, glasses, paintings, daylight)
+                self.assertEqual(window, desk.pane(0, cartoon, glasses, paintings, daylight))
+            self.assertEqual(desk.all_of(encode(*drawing), light(65535) * 3, light(65535) * 2, daylight),
+                             row(*daylight))
+
+    def test_turned_mirrored_magnified(self):
+        for k, drawing in enumerate(self.cartoons):
+            told = shop(k)
+            window = desk.all_of(encode(*drawing), *told)
+            self.assertEqual(window[:2], [0, 32])
+            for name, way in WAYS.items():
+                self.assertEqual(desk.all_of(moved(drawing, way), *told), window, name)
+
+
+if __name__ == "__main__":
+    unittest.main()

@@ -1,0 +1,75 @@
+"""The calls: each answers one list of whole numbers, a refusal's first one below 0."""
+
+from windowlight.judging import judge
+from windowlight.lights import are_lights, how_many_lights, is_light
+from windowlight.outlines import points_at
+from windowlight.shop import first_mark_without_light, mean_light, seen_light
+from windowlight.turns import twice_area
+
+MOST_BYTES = 131072
+MOST_LIGHTS = 256
+
+
+def refusal_of_rows(cartoon, glasses, paintings, daylight):
+    """The refusal -1 or -6; None if there is none."""
+    if not (is_light(daylight) and are_lights(glasses) and are_lights(paintings)):
+        return [-1]
+    too_many_lights = how_many_lights(glasses) > MOST_LIGHTS or how_many_lights(paintings) > MOST_LIGHTS
+    if len(cartoon) > MOST_BYTES or too_many_lights:
+        return [-6]
+    return None
+
+
+def refusal_of_cartoon(verdict):
+    """The refusal -5; None if there is none."""
+    if verdict.fault is None:
+        return None
+    return [-5, verdict.fault[0], verdict.fault[1]]
+
+
+def refusal_of_marks(marks, glasses, paintings):
+    """The refusal -3; None if there is none."""
+    k = first_mark_without_light(marks, glasses, paintings)
+    if k is None:
+        return None
+    return [-3, k]
+
+
+def row_answer(row):
+    return [0, len(row)] + row
+
+
+def pane(i, cartoon, glasses, paintings, daylight):
+    """What is seen of pane i by the daylight."""
+    refusal = refusal_of_rows(cartoon, glasses, paintings, daylight)
+    if refusal is not None:
+        return refusal
+    verdict = judge(cartoon)
+    refusal = refusal_of_cartoon(verdict)
+    if refusal is not None:
+        return refusal
+    marks = verdict.drawing.marks
+    if i >= len(marks):
+        return [-2]
+    refusal = refusal_of_marks(marks, glasses, paintings)
+    if refusal is not None:
+        return refusal
+    return row_answer(seen_light(marks[i], glasses, paintings, daylight))
+
+
+def all_of(cartoon, glasses, paintings, daylight):
+    """The window's light by the daylight."""
+    refusal = refusal_of_rows(cartoon, glasses, paintings, daylight)
+    if refusal is not None:
+        return refusal
+    verdict = judge(cartoon)
+    refusal = refusal_of_cartoon(verdict)
+    if refusal is not None:
+        return refusal
+    drawing = verdict.drawing
+    refusal = refusal_of_marks(drawing.marks, glasses, paintings)
+    if refusal is not None:
+        return refusal
+    areas = [twice_area(points_at(drawing.points, outline)) for outline in verdict.outlines]
+    lights = [seen_light(mark, glasses, paintings, daylight) for mark in drawing.marks]
+    return row_answer(mean_light(areas, lights, 2 * drawing.width * drawing.height))

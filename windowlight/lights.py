@@ -1,0 +1,37 @@
+"""Lights: rows of 32 bands, and rows of lights one behind another."""
+
+BANDS = 32
+FULL = 65535
+
+
+def are_bands(row):
+    """Tell whether each number is one that a band may have."""
+    for number in row:
+        if number < 0 or number > FULL:
+            return False
+    return True
+
+
+def is_light(row):
+    return len(row) == BANDS and are_bands(row)
+
+
+def are_lights(row):
+    """Tell whether the row is lights one behind another; an empty row is, of none."""
+    return len(row) % BANDS == 0 and are_bands(row)
+
+
+def how_many_lights(row):
+    return len(row) // BANDS
+
+
+def light_at(row, k):
+    """Light k of a row of lights."""
+    return row[BANDS * k:BANDS * (k + 1)]
+
+
+def light_through(one, other):
+    """Through one light and then the other, each band rounded to the nearest."""
+    # FULL is odd, so nothing lies midway between two whole numbers: adding its half, rounded down,
+    # lifts just what is nearer to the number above.
+    return [(a * b + FULL // 2) // FULL for a, b in zip(one, other)]
