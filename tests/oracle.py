@@ -5,6 +5,7 @@ between two lines of a strip is one piece, and pieces that touch through a gap a
 """
 
 from fractions import Fraction
+from itertools import combinations_with_replacement
 
 
 class Unions:
@@ -258,3 +259,20 @@ def all_of(data, glasses, paintings, daylight):
         area = areas[panes.pane_at(mark)]
         total = [t + area * n for t, n in zip(total, seen(mark, glasses, paintings, daylight))]
     return [int(t / (2 * width * height)) for t in total]
+
+
+def apart(one, other):
+    """The sum of squares, written out: a a - 2 a b + b b."""
+    return sum(a * a for a in one) - 2 * sum(a * b for a, b in zip(one, other)) + sum(b * b for b in other)
+
+
+def near(glasses, wanted):
+    """The nearest glass and how far apart; glasses as a list of lights, at least one."""
+    least, k = min((apart(glass, wanted), k) for k, glass in enumerate(glasses))
+    return [k, least]
+
+
+def two(glasses, wanted):
+    pairs = combinations_with_replacement(range(len(glasses)), 2)
+    least, i, j = min((apart(through(glasses[i], glasses[j]), wanted), i, j) for i, j in pairs)
+    return [i, j, least]

@@ -3,7 +3,7 @@
 from windowlight.judging import judge
 from windowlight.lights import are_lights, how_many_lights, is_light
 from windowlight.outlines import points_at
-from windowlight.shop import first_mark_without_light, mean_light, seen_light
+from windowlight.shop import first_mark_without_light, mean_light, nearest_glass, nearest_two, seen_light
 from windowlight.turns import twice_area
 
 MOST_BYTES = 131072
@@ -33,6 +33,17 @@ def refusal_of_marks(marks, glasses, paintings):
     if k is None:
         return None
     return [-3, k]
+
+
+def refusal_of_search(glasses, wanted):
+    """The refusal -1, -6 or -2 of a search among glasses; None if there is none."""
+    if not (is_light(wanted) and are_lights(glasses)):
+        return [-1]
+    if how_many_lights(glasses) > MOST_LIGHTS:
+        return [-6]
+    if how_many_lights(glasses) == 0:
+        return [-2]
+    return None
 
 
 def row_answer(row):
@@ -73,3 +84,19 @@ def all_of(cartoon, glasses, paintings, daylight):
     areas = [twice_area(points_at(drawing.points, outline)) for outline in verdict.outlines]
     lights = [seen_light(mark, glasses, paintings, daylight) for mark in drawing.marks]
     return row_answer(mean_light(areas, lights, 2 * drawing.width * drawing.height))
+
+
+def near(glasses, wanted):
+    """The number of the glass that is nearest to the wanted light, and how far apart it is."""
+    refusal = refusal_of_search(glasses, wanted)
+    if refusal is not None:
+        return refusal
+    return [0] + nearest_glass(glasses, wanted)
+
+
+def two(glasses, wanted):
+    """The numbers of the two glasses that are nearest to the wanted light, and how far apart they are."""
+    refusal = refusal_of_search(glasses, wanted)
+    if refusal is not None:
+        return refusal
+    return [0] + nearest_two(glasses, wanted)

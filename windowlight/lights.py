@@ -30,8 +30,18 @@ def light_at(row, k):
     return row[BANDS * k:BANDS * (k + 1)]
 
 
+def lights_of(row):
+    """The lights of a row of lights, each by itself."""
+    return [light_at(row, k) for k in range(how_many_lights(row))]
+
+
 def light_through(one, other):
     """Through one light and then the other, each band rounded to the nearest."""
     # FULL is odd, so nothing lies midway between two whole numbers: adding its half, rounded down,
     # lifts just what is nearer to the number above.
     return [(a * b + FULL // 2) // FULL for a, b in zip(one, other)]
+
+
+def how_far_apart(one, other):
+    """The sum of the squares of the two lights' differences, band by band."""
+    return sum([(a - b) * (a - b) for a, b in zip(one, other)])

@@ -1,6 +1,6 @@
-"""A shop's lights on a cartoon: what goes with what, panes' lights, the window's light."""
+"""A shop's lights: what goes with a cartoon, panes' lights, the window's light, nearest glasses."""
 
-from windowlight.lights import BANDS, how_many_lights, light_at, light_through
+from windowlight.lights import BANDS, how_far_apart, how_many_lights, light_at, light_through, lights_of
 
 
 def first_mark_without_light(marks, glasses, paintings):
@@ -29,3 +29,28 @@ def mean_light(areas, lights, whole):
     for area, light in zip(areas, lights):
         totals = [total + area * band for total, band in zip(totals, light)]
     return [total // whole for total in totals]
+
+
+def nearest_glass(glasses, wanted):
+    """The number of the glass that is nearest to the wanted light, and how far apart it is; there is a glass."""
+    nearest = None
+    for k, glass in enumerate(lights_of(glasses)):
+        distance = how_far_apart(glass, wanted)
+        # One that is only as near does not take the place: so the lowest number keeps it.
+        if nearest is None or distance < nearest[1]:
+            nearest = [k, distance]
+    return nearest
+
+
+def nearest_two(glasses, wanted):
+    """The numbers of the two glasses that are nearest to the wanted light, and how far apart; there is a glass."""
+    lights = lights_of(glasses)
+    nearest = None
+    for i, one in enumerate(lights):
+        # Light through two is the same either way round, and one glass may be taken twice.
+        for j in range(i, len(lights)):
+            distance = how_far_apart(light_through(one, lights[j]), wanted)
+            # One that is only as near does not take the place: so the lowest i, then j, keeps it.
+            if nearest is None or distance < nearest[2]:
+                nearest = [i, j, distance]
+    return nearest
