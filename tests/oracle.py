@@ -242,11 +242,14 @@ def through(one, other):
     return [round(Fraction(a * b, 65535)) for a, b in zip(one, other)]
 
 
-def seen(mark, glasses, paintings, daylight):
-    own = glasses[mark[2]]
+def own_light(mark, glasses, paintings):
     if mark[3] > 0:
-        own = through(own, paintings[mark[3] - 1])
-    return through(daylight, own)
+        return through(glasses[mark[2]], paintings[mark[3] - 1])
+    return glasses[mark[2]]
+
+
+def seen(mark, glasses, paintings, daylight):
+    return through(daylight, own_light(mark, glasses, paintings))
 
 
 def all_of(data, glasses, paintings, daylight):
@@ -276,3 +279,27 @@ def two(glasses, wanted):
     pairs = combinations_with_replacement(range(len(glasses)), 2)
     least, i, j = min((apart(through(glasses[i], glasses[j]), wanted), i, j) for i, j in pairs)
     return [i, j, least]
+
+
+def beside(data):
+    """The pairs of panes, the lower number first, that a step off the middle of some line leads to on either side."""
+    width, height, points, lines, marks = parts(data)
+    panes = Panes(points, lines)
+    number = {panes.pane_at(mark): k for k, mark in enumerate(marks)}
+    # So small a step that no other line lies between, not in the largest frame either.
+    step = Fraction(1, 10 ** 15)
+    found = set()
+    for a, b in lines:
+        p, q = points[a], points[b]
+        middle = (Fraction(p[0] + q[0], 2), Fraction(p[1] + q[1], 2))
+        off = (step * (p[1] - q[1]), step * (q[0] - p[0]))
+        spots = [(middle[0] + side * off[0], middle[1] + side * off[1]) for side in (1, -1)]
+        if all(0 < x < width and 0 < y < height for x, y in spots):
+            found.add(tuple(sorted(number[panes.pane_at(spot)] for spot in spots)))
+    return sorted(found)
+
+
+def alike(bound, data, glasses, paintings):
+    """The numbers that alike tells; glasses and paintings as lists of lights, all of them as they should be."""
+    own = [own_light(mark, glasses, paintings) for mark in parts(data)[4]]
+    return [k for i, j in beside(data) if apart(own[i], own[j]) < bound for k in (i, j)]

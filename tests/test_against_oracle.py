@@ -7,6 +7,8 @@ from tests import oracle
 from tests.cartoons import by_y, encode, random_drawing, row
 from windowlight import desk
 
+MOST = 18446744073709551615
+
 
 def change_byte(source, drawing):
     data = encode(*drawing)
@@ -122,15 +124,19 @@ def compare(case, data, source):
     if fault is not None:
         case.assertEqual(desk.all_of(*told), [-5, *fault])
         case.assertEqual(desk.pane(0, *told), [-5, *fault])
+        case.assertEqual(desk.alike(MOST, *told[:3]), [-5, *fault])
         return fault[0]
     marks = oracle.parts(data)[4]
     without = [k for k, mark in enumerate(marks) if mark[2] > 2 or mark[3] > 2]
     if without:
         case.assertEqual(desk.all_of(*told), [-3, without[0]])
+        case.assertEqual(desk.alike(MOST, *told[:3]), [-3, without[0]])
         return None
     case.assertEqual(desk.all_of(*told), row(*oracle.all_of(data, glasses, paintings, daylight)))
     for i, mark in enumerate(marks):
         case.assertEqual(desk.pane(i, *told), row(*oracle.seen(mark, glasses, paintings, daylight)))
+    for bound in (1, 32 * 20000 * 20000, MOST):
+        case.assertEqual(desk.alike(bound, *told[:3]), row(*oracle.alike(bound, data, glasses, paintings)))
     return None
 
 

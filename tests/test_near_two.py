@@ -6,6 +6,7 @@ import unittest
 
 from tests import oracle
 from tests.cartoons import light
+from tests.drawn import Watched, drawn_lights
 from windowlight import desk
 
 FULL = light(65535)
@@ -249,16 +250,6 @@ class TestTwo(unittest.TestCase):
         self.assertEqual(desk.two(light(3) * 256, light(3)), [0, 0, 0, 288])
 
 
-class Watched(list):
-    """A list that fails as soon as it is changed, be it for a while."""
-
-    def refuse(self, *told, **named):
-        raise AssertionError("what was handed in was changed")
-
-    append = clear = extend = insert = pop = remove = reverse = sort = refuse
-    __setitem__ = __delitem__ = __iadd__ = __imul__ = refuse
-
-
 class TestNothingIsKept(unittest.TestCase):
     CASES = {
         "answer": (RUN_GLASSES, WANTED),
@@ -299,24 +290,10 @@ class TestNothingIsKept(unittest.TestCase):
                 self.assertEqual(call(*told), kept, name)
 
 
-def drawn_bands(source):
-    """How a drawing's bands are drawn: anything, few numbers (so that many are as near), or the range's ends."""
-    few = [source.randrange(65536) for k in range(2)]
-    return source.choice([
-        lambda: source.randrange(65536),
-        lambda: source.randrange(3),
-        lambda: source.choice(few),
-        lambda: source.choice([0, 65535]),
-        lambda: source.choice([0, 1, 32767, 32768, 65534, 65535]),
-    ])
-
-
 def drawn(seed, most=14):
-    """Glasses, as a list of lights, and a wanted light; in some drawings all bands of a light are the same."""
+    """Glasses, as a list of lights, and a wanted light."""
     source = random.Random(seed)
-    band = drawn_bands(source)
-    alike = source.randrange(3) == 0
-    lights = [light(band()) if alike else [band() for k in range(32)] for j in range(source.randrange(2, most + 1))]
+    lights = drawn_lights(source, source.randrange(2, most + 1))
     wanted = lights.pop()
     if source.randrange(4) == 0:
         lights = [source.choice(lights) for k in lights]

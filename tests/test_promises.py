@@ -4,20 +4,9 @@ the window is turned, mirrored, magnified."""
 import random
 import unittest
 
-from tests import oracle
-from tests.cartoons import RUN_LINES, RUN_MARKS, RUN_POINTS, by_y, encode, light, random_drawing, row
+from tests.cartoons import by_y, encode, light, row
+from tests.drawn import drawings
 from windowlight import desk
-
-SEEDS = range(60)
-
-
-def cartoons():
-    """Drawings of all kinds that keep every rule."""
-    yield 30, 20, RUN_POINTS, RUN_LINES, RUN_MARKS
-    for seed in SEEDS:
-        drawing = random_drawing(seed)
-        if oracle.judge(encode(*drawing)) is None:
-            yield drawing
 
 
 def shop(seed):
@@ -53,16 +42,12 @@ WAYS = {
 
 
 class TestPromise4(unittest.TestCase):
-    @classmethod
-    def setUpClass(cls):
-        cls.cartoons = list(cartoons())
-
     def test_there_are_many(self):
-        self.assertGreater(len(self.cartoons), 30)
-        self.assertGreater(max(len(drawing[4]) for drawing in self.cartoons), 10)
+        self.assertGreater(len(drawings()), 30)
+        self.assertGreater(max(len(drawing[4]) for drawing in drawings()), 10)
 
     def test_between_the_least_and_the_greatest(self):
-        for k, drawing in enumerate(self.cartoons):
+        for k, drawing in enumerate(drawings()):
             told = (encode(*drawing), *shop(k))
             panes = [desk.pane(i, *told)[2:] for i in range(len(drawing[4]))]
             window = desk.all_of(*told)[2:]
@@ -72,7 +57,7 @@ class TestPromise4(unittest.TestCase):
                 self.assertTrue(min(seen) <= number <= max(seen))
 
     def test_panes_all_alike(self):
-        for k, drawing in enumerate(self.cartoons):
+        for k, drawing in enumerate(drawings()):
             width, height, points, lines, marks = drawing
             glasses, paintings, daylight = shop(k)
             for number, painting in ((0, 0), (2, 0), (1, 2)):
@@ -83,7 +68,7 @@ class TestPromise4(unittest.TestCase):
                              row(*daylight))
 
     def test_turned_mirrored_magnified(self):
-        for k, drawing in enumerate(self.cartoons):
+        for k, drawing in enumerate(drawings()):
             told = shop(k)
             window = desk.all_of(encode(*drawing), *told)
             self.assertEqual(window[:2], [0, 32])

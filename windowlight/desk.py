@@ -1,23 +1,31 @@
 """The calls: each answers one list of whole numbers, a refusal's first one below 0."""
 
 from windowlight.judging import judge
-from windowlight.lights import are_lights, how_many_lights, is_light
-from windowlight.outlines import points_at
-from windowlight.shop import first_mark_without_light, mean_light, nearest_glass, nearest_two, seen_light
+from windowlight.lights import are_lights, how_many_lights, is_light, light_through
+from windowlight.outlines import pairs_beside, points_at
+from windowlight.shop import first_mark_without_light, mean_light, nearest_glass, nearest_two
+from windowlight.shop import pairs_alike, pane_light, seen_light
 from windowlight.turns import twice_area
 
 MOST_BYTES = 131072
 MOST_LIGHTS = 256
 
 
-def refusal_of_rows(cartoon, glasses, paintings, daylight):
-    """The refusal -1 or -6; None if there is none."""
-    if not (is_light(daylight) and are_lights(glasses) and are_lights(paintings)):
+def refusal_of_shop(cartoon, glasses, paintings):
+    """The refusal -1 or -6 of a window without a daylight; None if there is none."""
+    if not (are_lights(glasses) and are_lights(paintings)):
         return [-1]
     too_many_lights = how_many_lights(glasses) > MOST_LIGHTS or how_many_lights(paintings) > MOST_LIGHTS
     if len(cartoon) > MOST_BYTES or too_many_lights:
         return [-6]
     return None
+
+
+def refusal_of_rows(cartoon, glasses, paintings, daylight):
+    """The refusal -1 or -6 of a window by a daylight; None if there is none."""
+    if not is_light(daylight):
+        return [-1]
+    return refusal_of_shop(cartoon, glasses, paintings)
 
 
 def refusal_of_cartoon(verdict):
@@ -33,6 +41,14 @@ def refusal_of_marks(marks, glasses, paintings):
     if k is None:
         return None
     return [-3, k]
+
+
+def refusal_of_window(verdict, glasses, paintings):
+    """The refusal -5 or -3; None if there is none."""
+    refusal = refusal_of_cartoon(verdict)
+    if refusal is not None:
+        return refusal
+    return refusal_of_marks(verdict.drawing.marks, glasses, paintings)
 
 
 def refusal_of_search(glasses, wanted):
@@ -74,13 +90,10 @@ def all_of(cartoon, glasses, paintings, daylight):
     if refusal is not None:
         return refusal
     verdict = judge(cartoon)
-    refusal = refusal_of_cartoon(verdict)
+    refusal = refusal_of_window(verdict, glasses, paintings)
     if refusal is not None:
         return refusal
     drawing = verdict.drawing
-    refusal = refusal_of_marks(drawing.marks, glasses, paintings)
-    if refusal is not None:
-        return refusal
     areas = [twice_area(points_at(drawing.points, outline)) for outline in verdict.outlines]
     lights = [seen_light(mark, glasses, paintings, daylight) for mark in drawing.marks]
     return row_answer(mean_light(areas, lights, 2 * drawing.width * drawing.height))
@@ -100,3 +113,26 @@ def two(glasses, wanted):
     if refusal is not None:
         return refusal
     return [0] + nearest_two(glasses, wanted)
+
+
+def alike(bound, cartoon, glasses, paintings):
+    """The pairs of panes that have a line in common and whose lights are less than the bound apart."""
+    refusal = refusal_of_shop(cartoon, glasses, paintings)
+    if refusal is not None:
+        return refusal
+    verdict = judge(cartoon)
+    refusal = refusal_of_window(verdict, glasses, paintings)
+    if refusal is not None:
+        return refusal
+    lights = [pane_light(mark, glasses, paintings) for mark in verdict.drawing.marks]
+    row = []
+    for pair in pairs_alike(bound, pairs_beside(verdict.outlines), lights):
+        row.extend(pair)
+    return row_answer(row)
+
+
+def through(one, other):
+    """The light through one light and the other."""
+    if not (is_light(one) and is_light(other)):
+        return [-1]
+    return row_answer(light_through(one, other))

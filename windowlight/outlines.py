@@ -1,4 +1,4 @@
-"""The outlines of a drawing that breaks none of rules 1 to 10: rows of points' numbers."""
+"""The outlines of a drawing that breaks none of rules 1 to 10: rows of points' numbers; which share a line."""
 
 from windowlight.rules import neighbours_of
 from windowlight.turns import turn, twice_area
@@ -61,3 +61,27 @@ def outlines_of(drawing):
                 if twice_area(points_at(points, corners)) > 0:
                     outlines.append(corners)
     return outlines
+
+
+def panes_by_ways(outlines):
+    """The number of the pane to the left of each way along a line, by the points' numbers it goes from and to."""
+    panes = {}
+    for k, outline in enumerate(outlines):
+        last = outline[-1]
+        for corner in outline:
+            panes[(last, corner)] = k
+            last = corner
+    return panes
+
+
+def pairs_beside(outlines):
+    """The panes i, j, i below j, that have a line in common, each pair once, by i, then j."""
+    panes = panes_by_ways(outlines)
+    pairs = {}
+    for start, end in panes:
+        one = panes[(start, end)]
+        # What lies to the right of a way lies to the left of the way back; to the right of the frame lies no pane.
+        other = panes.get((end, start))
+        if other is not None and one < other:
+            pairs[(one, other)] = True
+    return sorted(pairs)

@@ -1,4 +1,4 @@
-"""A shop's lights: what goes with a cartoon, panes' lights, the window's light, nearest glasses."""
+"""A shop's lights: what goes with a cartoon, panes' lights, the window's light, nearest glasses, panes alike."""
 
 from windowlight.lights import BANDS, how_far_apart, how_many_lights, light_at, light_through, lights_of
 
@@ -54,3 +54,8 @@ def nearest_two(glasses, wanted):
             if nearest is None or distance < nearest[2]:
                 nearest = [i, j, distance]
     return nearest
+
+
+def pairs_alike(bound, pairs, lights):
+    """Of the pairs of panes those whose lights are less than the bound apart."""
+    return [pair for pair in pairs if how_far_apart(lights[pair[0]], lights[pair[1]]) < bound]
