@@ -269,6 +269,12 @@ def apart(one, other):
     return sum(a * a for a in one) - 2 * sum(a * b for a, b in zip(one, other)) + sum(b * b for b in other)
 
 
+def weigh(weights, own):
+    """What the weights above 0 give, less what those below 0 take."""
+    given = sum(band * weight for weight, band in zip(weights, own) if weight > 0)
+    return given - sum(band * abs(weight) for weight, band in zip(weights, own) if weight < 0)
+
+
 def near(glasses, wanted):
     """The nearest glass and how far apart; glasses as a list of lights, at least one."""
     least, k = min((apart(glass, wanted), k) for k, glass in enumerate(glasses))

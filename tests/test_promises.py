@@ -1,11 +1,11 @@
-"""Promise 4: the window's light lies between its panes', and is theirs if they are alike; it stays, however
-the window is turned, mirrored, magnified."""
+"""Promise 2: what is nowhere above another light isn't so through a third. Promise 4: the window's light lies
+between its panes', and is theirs if they are alike; it stays, however the window is turned, mirrored, magnified."""
 
 import random
 import unittest
 
 from tests.cartoons import by_y, encode, light, row
-from tests.drawn import drawings
+from tests.drawn import drawings, drawn_lights
 from windowlight import desk
 
 
@@ -39,6 +39,42 @@ WAYS = {
     "magnified much": lambda x, y, w, h: (26000 * x, 26000 * y),
     "widened": lambda x, y, w, h: (700 * x, y),
 }
+
+
+def lower_and_higher(source):
+    """Two lights, the first nowhere above the second."""
+    one, other = drawn_lights(source, 1)[0], drawn_lights(source, 1)[0]
+    return [list(map(choice, one, other)) for choice in (min, max)]
+
+
+class TestPromise2(unittest.TestCase):
+    def assert_nowhere_above(self, one, other):
+        self.assertEqual((one[:2], other[:2]), ([0, 32], [0, 32]))
+        self.assertTrue(all(a <= b for a, b in zip(one[2:], other[2:], strict=True)))
+
+    def test_drawn_lights(self):
+        for seed in range(300):
+            source = random.Random(seed)
+            lower, higher = lower_and_higher(source)
+            for third in drawn_lights(source, 4) + [light(0), light(65535), lower, higher]:
+                self.assert_nowhere_above(desk.through(lower, third), desk.through(higher, third))
+                self.assert_nowhere_above(desk.through(third, lower), desk.through(third, higher))
+
+    def test_each_number_and_the_next(self):
+        for third in (0, 1, 2, 32767, 32768, 65534, 65535):
+            for start in range(0, 65535, 31):
+                numbers = [min(start + k, 65535) for k in range(33)]
+                self.assert_nowhere_above(desk.through(numbers[:-1], light(third)),
+                                          desk.through(numbers[1:], light(third)))
+
+    def test_windows_by_a_lower_daylight(self):
+        for k, drawing in enumerate(drawings()):
+            glasses, paintings, daylight = shop(k)
+            told = (encode(*drawing), glasses, paintings)
+            lower, higher = lower_and_higher(random.Random(k))
+            for i in range(len(drawing[4])):
+                self.assert_nowhere_above(desk.pane(i, *told, lower), desk.pane(i, *told, higher))
+            self.assert_nowhere_above(desk.all_of(*told, lower), desk.all_of(*told, higher))
 
 
 class TestPromise4(unittest.TestCase):

@@ -1,7 +1,8 @@
 """The calls: each answers one list of whole numbers, a refusal's first one below 0."""
 
 from windowlight.judging import judge
-from windowlight.lights import are_lights, how_many_lights, is_light, light_through
+from windowlight.lights import are_lights, are_weights, how_far_apart, how_many_lights, is_light
+from windowlight.lights import light_through, weighed
 from windowlight.outlines import pairs_beside, points_at
 from windowlight.shop import first_mark_without_light, mean_light, nearest_glass, nearest_two
 from windowlight.shop import pairs_alike, pane_light, seen_light
@@ -136,3 +137,17 @@ def through(one, other):
     if not (is_light(one) and is_light(other)):
         return [-1]
     return row_answer(light_through(one, other))
+
+
+def apart(one, other):
+    """How far apart the two lights are."""
+    if not (is_light(one) and is_light(other)):
+        return [-1]
+    return [0, how_far_apart(one, other)]
+
+
+def weigh(weights, light):
+    """The light weighed by the weights."""
+    if not (are_weights(weights) and is_light(light)):
+        return [-1]
+    return [0, weighed(weights, light)]

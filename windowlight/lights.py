@@ -1,24 +1,30 @@
-"""Lights: rows of 32 bands, and rows of lights one behind another."""
+"""Lights: rows of 32 bands, and rows of lights one behind another; the weights by which they are weighed."""
 
 BANDS = 32
 FULL = 65535
+# A weight is a number of 16 bits with a sign: from -32,768 to 32,767.
+WEIGHTS_END = 32768
 
 
-def are_bands(row):
-    """Tell whether each number is one that a band may have."""
+def are_within(row, least, greatest):
+    """Tell whether each number is from the least to the greatest."""
     for number in row:
-        if number < 0 or number > FULL:
+        if number < least or number > greatest:
             return False
     return True
 
 
 def is_light(row):
-    return len(row) == BANDS and are_bands(row)
+    return len(row) == BANDS and are_within(row, 0, FULL)
 
 
 def are_lights(row):
     """Tell whether the row is lights one behind another; an empty row is, of none."""
-    return len(row) % BANDS == 0 and are_bands(row)
+    return len(row) % BANDS == 0 and are_within(row, 0, FULL)
+
+
+def are_weights(row):
+    return len(row) == BANDS and are_within(row, -WEIGHTS_END, WEIGHTS_END - 1)
 
 
 def how_many_lights(row):
@@ -45,3 +51,8 @@ def light_through(one, other):
 def how_far_apart(one, other):
     """The sum of the squares of the two lights' differences, band by band."""
     return sum([(a - b) * (a - b) for a, b in zip(one, other)])
+
+
+def weighed(weights, light):
+    """The sum of weight times band."""
+    return sum([weight * band for weight, band in zip(weights, light)])
